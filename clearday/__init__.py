@@ -1,0 +1,1 @@
+"""Clearday: debts cut round rings."""
