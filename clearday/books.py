@@ -7,12 +7,15 @@ MOST_DEBTS = 60
 MOST_AMOUNT = 1000000000
 
 
+def is_whole(value):
+    """Tell whether the value is a whole number."""
+    # isinstance takes True and False for integers; here they are no numbers.
+    return isinstance(value, int) and not isinstance(value, bool)
+
+
 def is_number(value, low, high):
     """Tell whether the value is a whole number from low to high."""
-    # isinstance takes True and False for integers; here they are no numbers.
-    if isinstance(value, bool) or not isinstance(value, int):
-        return False
-    return low <= value <= high
+    return is_whole(value) and low <= value <= high
 
 
 def is_debt(count, value):
@@ -25,10 +28,15 @@ def is_debt(count, value):
     return debtor != creditor and is_number(amount, 1, MOST_AMOUNT)
 
 
-def checked(count, debts):
-    """Return a list of the same debts, or refuse what is no book."""
+def check_count(count):
+    """Refuse what is no count of houses."""
     if not is_number(count, 1, MOST_HOUSES):
         raise BadCount(f"a count of houses is a number from 1 to {MOST_HOUSES}")
+
+
+def checked(count, debts):
+    """Return a list of the same debts, or refuse what is no book."""
+    check_count(count)
     if not isinstance(debts, list) or len(debts) > MOST_DEBTS:
         raise BadDebt(f"the debts are a list of at most {MOST_DEBTS}")
     for number, debt in enumerate(debts):

@@ -1,7 +1,7 @@
 """Cuts: how much is cut off each debt of a book."""
 
 from clearday.books import balances, is_number
-from clearday.errors import BadCut
+from clearday.errors import BadCut, Uneven
 
 
 def check_cut(debts, cut):
@@ -36,3 +36,9 @@ def even(count, debts, cut):
     # What is cut off is itself a list of debts, and evenness says that it moves no balance.
     removed = [(debtor, creditor, off) for off, (debtor, creditor, _) in zip(cut, debts)]
     return not any(balances(count, removed))
+
+
+def check_even(count, debts, cut):
+    """Refuse what is no cut of the debts, then a cut that is not even."""
+    if not even(count, debts, cut):
+        raise Uneven("the cut takes from a house more on one side than on the other")

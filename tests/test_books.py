@@ -1,19 +1,12 @@
 """Tests of clearday.books: points 1, 2 and 3."""
 
 import copy
-import inspect
 import unittest
 
 from clearday import books
 from clearday.books import balances, checked, total
 from clearday.errors import BadCount, BadDebt
-from refusals import assert_refused
-
-MOST = 1000000000
-
-NO_COUNTS = [
-    0, -1, -20, 21, 22, 1000, True, False, "", "3", "three", None, [], [3], (3,), {}, {3: 3}, 3.0, b"3",
-]
+from helper import MOST, NO_COUNTS, assert_functions, assert_refused
 
 NO_LISTS = [
     (), ((0, 1, 5),), None, "", "debts", b"debts", 0, 1, 7, True, False, {}, {(0, 1, 5): 1}, set(),
@@ -35,11 +28,7 @@ NO_DEBTS = [
 class InterfaceTest(unittest.TestCase):
     def test_names_and_arguments(self):
         wanted = {"checked": ["count", "debts"], "balances": ["count", "debts"], "total": ["debts"]}
-        for name, arguments in wanted.items():
-            with self.subTest(name=name):
-                function = getattr(books, name)
-                self.assertEqual(list(inspect.signature(function).parameters), arguments)
-                self.assertEqual(function.__module__, "clearday.books")
+        assert_functions(self, books, wanted)
 
 
 class CheckedTest(unittest.TestCase):

@@ -1,6 +1,5 @@
 """Tests of clearday.cuts: points 1 and 5."""
 
-import inspect
 import itertools
 import unittest
 
@@ -8,14 +7,12 @@ from clearday import cuts
 from clearday.books import balances, total
 from clearday.cuts import even, left, worth
 from clearday.errors import BadCut
-from refusals import assert_refused
+from helper import MOST, NO_NUMBERS, assert_functions, assert_refused
 
-MOST = 1000000000
 COUNT = 3
 DEBTS = [(0, 1, 5), (1, 2, 7), (2, 0, 3)]
 
 NO_LISTS = [None, (), (0, 0, 0), "", "000", b"000", 0, 3, True, False, {}, {0: 0, 1: 0, 2: 0}, {0}]
-NO_NUMBERS = [True, False, "", "0", "1", None, [], [0], (0,), {}, 0.0, 1.0, b"0"]
 
 
 def refused(case, count, debts, cut):
@@ -28,11 +25,7 @@ def refused(case, count, debts, cut):
 class InterfaceTest(unittest.TestCase):
     def test_names_and_arguments(self):
         wanted = {"worth": ["debts", "cut"], "left": ["debts", "cut"], "even": ["count", "debts", "cut"]}
-        for name, arguments in wanted.items():
-            with self.subTest(name=name):
-                function = getattr(cuts, name)
-                self.assertEqual(list(inspect.signature(function).parameters), arguments)
-                self.assertEqual(function.__module__, "clearday.cuts")
+        assert_functions(self, cuts, wanted)
 
 
 class RefusalTest(unittest.TestCase):
